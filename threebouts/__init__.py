@@ -1,0 +1,1 @@
+"""A play-off of three, asked by threebouts.ring.answers."""
